@@ -1,0 +1,101 @@
+"""What the tests share: values of all kinds, a check of errors, a runner of the document's examples."""
+
+import unittest
+
+from filledrow import errors
+from filledrow.bars import Bars, Example
+from filledrow.fillings import Filling
+from filledrow.orders import Order
+from filledrow.peels import Found, Stuck
+from filledrow.sides import Side
+from filledrow.tables import Table
+
+LONG = 10 ** 29 + 7
+LETTERS = "abcdefgh"
+
+
+def some_function():
+    """A function, as one of the values that may be passed."""
+
+
+PLAIN = [
+    None, True, False, 0, 1, 2, -1, -7, 10 ** 39, "", "a", "x", "A", "a1", "none", "self", "abcdefghi", "a b", "-", "1",
+    "a\nb", (), ("a",), ("a", "x"), ("a", "none"), ("self", "x"), ("a", "x", "b"), ("a", 1), (("a", "x"), None, None),
+    (("a", "x"), ("a", "y"), None), [], ["a"], ["a", "x"], [("a", "x")], [["a"], {}], {}, {"a": 1}, {"a": {"x": 1}},
+    {("a", "x"): 1}, {"a": [1, {"b": ()}]}, ([],), ("a", []), ([], "x"), (("a", "x"), [], None), some_function, len,
+]
+OBJECTS = [
+    Table({"a": {"x": 1}}), Side(a=1), Filling({("a", "x"): 1}), Order(("a", "x")), Bars([("a", "x")]), Found(1),
+    Stuck(()), Example(1, 2, 3, 4), errors.BadName(1),
+]
+ANY = PLAIN + OBJECTS
+
+NO_NAMES = [value for value in ANY if value not in ("a", "x") or not isinstance(value, str)]
+NO_AMOUNTS = [value for value in ANY if not (type(value) is int and value >= 0)]
+NO_COUNTS = [value for value in ANY if not (type(value) is int and value >= 1)]
+NO_PAIRS = [value for value in ANY if not (isinstance(value, tuple) and value == ("a", "x"))]
+NO_ROWS = [value for value in ANY if not isinstance(value, (list, tuple))]
+NO_DICTS = [value for value in ANY if not isinstance(value, dict)]
+NO_STRINGS = [value for value in ANY if not isinstance(value, str)]
+
+
+def others(kind):
+    """All values that are not of a class."""
+    return [value for value in ANY if not isinstance(value, kind)]
+
+
+def can_be_key(value):
+    """Whether a value can be a key of a dict."""
+    try:
+        hash(value)
+    except TypeError:
+        return False
+    return True
+
+
+def is_pair_like(value):
+    """Whether a value of those above is a pair."""
+    return isinstance(value, tuple) and value == ("a", "x")
+
+
+def pairs_of(sources, uses):
+    """All pairs of some letters."""
+    return tuple((source, use) for source in sources for use in uses)
+
+
+FOUR = pairs_of("ab", "xy")
+SIX_BY_SIX = pairs_of("abcdef", "uvwxyz")
+THIRTY_SEVEN = SIX_BY_SIX + (("g", "u"),)
+
+
+class Case(unittest.TestCase):
+    """A test case that knows the errors of the package."""
+
+    def told(self, expected, call, *arguments, **named):
+        """Checks that a call raises just this error, with just these attributes."""
+        with self.assertRaises(errors.FillError) as caught:
+            call(*arguments, **named)
+        self.assertIs(type(caught.exception), type(expected), (caught.exception, arguments, named))
+        mine, theirs = vars(caught.exception), vars(expected)
+        self.assertEqual(list(mine), list(theirs))
+        for name in mine:
+            self.assertIs(type(mine[name]), type(theirs[name]), (mine, theirs))
+            self.assertEqual(mine[name], theirs[name])
+
+
+def run_examples(case, text, space):
+    """Runs lines behind `>>>`, and compares what they give with the line behind them, if there is one."""
+    rows = text.strip().split("\n")
+    for at, row in enumerate(rows):
+        if not row.startswith(">>> "):
+            continue
+        line = row[4:]
+        wanted = rows[at + 1] if at + 1 < len(rows) and not rows[at + 1].startswith(">>> ") else None
+        if wanted is None:
+            exec(line, space)
+        elif wanted.startswith("raises "):
+            with case.assertRaises(errors.FillError) as caught:
+                eval(line, space)
+            case.assertEqual(repr(caught.exception), wanted[len("raises "):], line)
+        else:
+            case.assertEqual(repr(eval(line, space)), wanted, line)

@@ -1,0 +1,127 @@
+"""The examples of the document, to the letter, in its order and with its names."""
+
+import unittest
+
+from tests.support import Case, run_examples
+
+TABLES = """
+>>> from filledrow.tables import Table
+>>> table = Table({"b": {"y": 1}, "a": {"y": 2, "x": 3}})
+>>> [str(table), table.pairs, table["b", "x"], ("b", "x") in table, table.scope("a"), table.takers("y")]
+['x y : a 3 2 ; b 0 1', (('a', 'x'), ('a', 'y'), ('b', 'y')), 0, False, ('x', 'y'), ('a', 'b')]
+>>> [str(table + table * 2), str(table & Table.flat({"a": ["x"], "c": ["x"]})), str(~table), str(table // 2), str(table % 2), str(table.without("a"))]
+['x y : a 9 6 ; b 0 3', 'x y : a 1 0 ; b 0 0 ; c 0 0', 'a b : x 3 0 ; y 2 1', 'x y : a 1 1 ; b 0 0', 'x y : a 1 0 ; b 0 1', 'x y : b 0 1']
+>>> [table <= table + table, table < table, str(Table.rated({"a": 3, "b": 1}, {"x": 2, "y": 0})), str(table.with_worth("c", "z", 4)), str(Table({}))]
+[True, False, 'x y : a 6 0 ; b 2 0', 'x y z : a 3 2 0 ; b 0 1 0 ; c 0 0 4', ':']
+>>> Table.read("x y : a 3 2 ; b 1")
+raises BadText(0, 9)
+>>> table * -1
+raises BadAmount(-1)
+"""
+
+SIDES = """
+>>> from filledrow.sides import Side
+>>> one, two = Side(a=7, b=2, c=0), Side.of({"b": 5, "d": 1})
+>>> [str(one + two), str(one & two), str(one | two), str(2 * one), str(one // 3), str(one % 3), one.names, one.total, one["c"], one[5]]
+['a 7 b 7 d 1', 'b 2', 'a 7 b 5 d 1', 'a 14 b 4', 'a 2', 'a 1 b 2', ('a', 'b'), 9, 0, 0]
+>>> [one <= one + two, one < one, list(two), "c" in one, bool(Side()), str(one.with_amount("a", 0)), Side.read("a 7 b 2") == one]
+[True, False, [('b', 5), ('d', 1)], False, False, 'b 2', True]
+>>> one - two
+raises Lacking('b')
+>>> Side.read("b 2 a 7")
+raises BadText(0, 2)
+"""
+
+FILLINGS = """
+>>> from filledrow.fillings import Filling
+>>> from filledrow.tables import Table
+>>> put = Filling({("a", "x"): 3, ("b", "x"): 1, ("b", "y"): 0, ("b", "z"): 4})
+>>> [str(put), str(put.by_source), str(put.by_use), put.total, put["b", "x"], put["b", "y"], put.worth_in(Table({"a": {"x": 5}, "b": {"z": 2}}))]
+['a x 3 ; b x 1 ; b z 4', 'a 3 b 5', 'x 4 z 4', 8, 1, 0, 23]
+>>> [put.fits(Side(a=3, b=6), Side(x=4, z=4)), put.uses_up(Side(a=3, b=5), Side(x=4, z=4)), put.fits(Side(a=2, b=9), Side(x=9, z=9)), str(~put), str(put // 2)]
+[True, True, False, 'x a 3 ; x b 1 ; z b 4', 'a x 1 ; b z 2']
+>>> put - 2 * put
+raises Lacking(('a', 'x'))
+"""
+
+FILLS = """
+>>> from filledrow.fills import remains, ripple, shows_fill, steps
+>>> from filledrow.fillings import Filling
+>>> from filledrow.orders import Order
+>>> from filledrow.sides import Side
+>>> from filledrow.tables import Table
+>>> order = Order(("a", "x"), ("a", "y"), ("b", "x"), ("b", "y"))
+>>> sources, uses = Side(a=5, b=4), Side(x=3, y=4)
+>>> [str(order(sources, uses)), list(steps(order, sources, uses))[1:3], [str(side) for side in remains(order, sources, uses)]]
+['a x 3 ; a y 2 ; b y 2', [(('a', 'y'), 2, 0, 2), (('b', 'x'), 0, 4, 0)], ['b 2', '-']]
+>>> [ripple(order, sources, uses, "a"), ripple(order, sources, uses, "b"), shows_fill(order, sources, uses, order(sources, uses))]
+[(('a', 'y'), ('b', 'y')), (), True]
+>>> [str(order[1:3]), order[-1], order.place(("b", "x")), str(order.moved(("b", "x"), 0)), str(~order[:2]), str(order - order[::2])]
+['a y ; b x', ('b', 'y'), 2, 'b x ; a x ; a y ; b y', 'x a ; y a', 'a y ; b y']
+>>> [order[::2] <= order, order[::-1] <= order, str(order.reduced([("b", "y"), ("c", "z")])), str(Order()), Order.read("b x ; a y") == Order(("b", "x"), ("a", "y"))]
+[True, False, 'b y', '-', True]
+>>> table = Table({"a": {"x": 9, "y": 8}, "b": {"x": 8, "y": 0}})
+>>> [str(Order.by_worth(table)), str(Order.by_sources(table))]
+['a x ; a y ; b x', 'a x ; a y ; b x']
+>>> order.place(("x", "a"))
+raises NoPair(('x', 'a'))
+>>> order + order[:1]
+raises BadOrder('twice')
+>>> Order.read("a x b y")
+raises BadText(0, 2)
+"""
+
+BARS = """
+>>> from filledrow.bars import Bars, Example, example, joint_pairs
+>>> from filledrow.look_bars import shows_example
+>>> from filledrow.orders import Order
+>>> from filledrow.tables import Table
+>>> crossed = Table({"a": {"x": 1, "y": 1}, "b": {"y": 1, "z": 1}})
+>>> best = Bars.best(crossed)
+>>> list(best)
+[(('a', 'y'), ('a', 'x'), ('b', 'y')), (('b', 'y'), ('a', 'y'), ('b', 'z'))]
+>>> good, bad = Order.read("a x ; b z ; a y ; b y"), Order.read("a x ; b y ; a y ; b z")
+>>> [best.first_broken(good), best.first_broken(bad), best.holding(("a", "y"), [("a", "y"), ("b", "y")])]
+[None, (('b', 'y'), ('a', 'y'), ('b', 'z')), ()]
+>>> found = example(crossed, (("b", "y"), ("a", "y"), ("b", "z")))
+>>> [str(found.sources), str(found.uses), str(found.worse), str(found.better), shows_example(crossed, bad, found), shows_example(crossed, good, found)]
+['a 1 b 1', 'y 1 z 1', 'b y 1', 'a y 1 ; b z 1', True, False]
+>>> square = Table({"a": {"x": 9, "y": 8}, "b": {"x": 8, "y": 1}})
+>>> [len(Bars.best(square)), len(Bars.used_up(square)), list(Bars.used_up(square))[0]]
+[6, 2, (('a', 'x'), ('a', 'y'), ('b', 'x'))]
+>>> [list(Bars.ahead(crossed.pairs, ("b", "z"), ("a", "x"))), str(Bars.ahead([("a", "x"), ("b", "x")], ("b", "x"), ("a", "x")))]
+[[(('a', 'x'), ('b', 'z'), None)], 'a x b x ; a x b x none']
+>>> Bars(crossed.pairs, (("a", "x"), ("a", "x"), None))
+raises BadBars(0)
+"""
+
+# What this section asks of filledrow.look_peels is left out: that module belongs to a later stage.
+PEELS = """
+>>> from filledrow.peels import Found, Stuck, count_orders, find_order, firsts, free_pairs, lasts, narrowed, orders
+>>> [free_pairs(best, crossed.pairs), str(find_order(best).order), count_orders(best), firsts(best), lasts(best)]
+[(('a', 'x'), ('b', 'z')), 'a x ; a y ; b y ; b z', 8, (('a', 'x'), ('b', 'z')), (('a', 'x'), ('a', 'y'), ('b', 'y'), ('b', 'z'))]
+>>> ring = Table({"a": {"x": 1, "y": 1}, "b": {"y": 1, "z": 1}, "c": {"x": 1, "z": 1}})
+>>> stuck = find_order(Bars.best(ring))
+>>> [bool(stuck), len(stuck.held), stuck.held[0], count_orders(Bars.best(ring))]
+[False, 6, (('a', 'x'), (('a', 'x'), ('a', 'y'), ('c', 'x'))), 0]
+>>> [str(order) for order in orders(Bars.used_up(square))]
+['a y ; a x ; b x ; b y', 'a y ; a x ; b y ; b x', 'a y ; b x ; a x ; b y', 'a y ; b x ; b y ; a x', 'a y ; b y ; a x ; b x', 'a y ; b y ; b x ; a x', 'b x ; a x ; a y ; b y', 'b x ; a x ; b y ; a y', 'b x ; a y ; a x ; b y', 'b x ; a y ; b y ; a x', 'b x ; b y ; a x ; a y', 'b x ; b y ; a y ; a x']
+>>> wished = best | Bars.ahead(crossed.pairs, ("b", "y"), ("a", "x"))
+>>> [str(find_order(wished).order), find_order(wished | Bars.ahead(crossed.pairs, ("a", "y"), ("b", "z"))).held[0]]
+['b z ; b y ; a x ; a y', (('a', 'x'), (('a', 'x'), ('b', 'y'), None))]
+>>> [find_order(Bars.best(square)) == Found(None), len(narrowed(Bars.best(square)).pairs)]
+[False, 4]
+"""
+
+
+class Examples(Case):
+    """Each section goes on with the names of those ahead of it."""
+
+    def test_examples(self):
+        space = {}
+        for text in (TABLES, SIDES, FILLINGS, FILLS, BARS, PEELS):
+            run_examples(self, text, space)
+
+
+if __name__ == "__main__":
+    unittest.main()

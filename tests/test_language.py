@@ -1,0 +1,147 @@
+"""The code of the package keeps to the rules of its language, as far as they can be seen from outside."""
+
+import ast
+import builtins
+import pathlib
+import re
+import unittest
+
+import filledrow
+
+FOLDER = pathlib.Path(filledrow.__file__).parent
+FILES = sorted(FOLDER.glob("*.py"))
+BUILTINS = set(
+    "len range enumerate zip min max sum abs sorted reversed int str bool bytes list tuple dict set isinstance ord repr"
+    " any all divmod iter next ValueError NotImplemented".split())
+METHODS = set(
+    "append clear copy count endswith extend find get index insert isalnum isalpha isdigit islower isspace isupper items"
+    " join keys ljust lower lstrip partition pop remove replace reverse rfind rjust rpartition rsplit rstrip setdefault"
+    " split splitlines startswith strip update upper values zfill bit_length isascii".split())
+SPECIAL = set(
+    "__init__ __eq__ __str__ __len__ __call__ __iter__ __lt__ __le__ __gt__ __ge__ __add__ __sub__ __mul__ __rmul__"
+    " __floordiv__ __mod__ __and__ __or__ __invert__ __bool__ __contains__ __getitem__".split())
+BARRED = (ast.Try, ast.With, ast.Global, ast.Nonlocal, ast.GeneratorExp, ast.AsyncFunctionDef, ast.Await, ast.SetComp,
+          ast.Set, ast.Lambda, ast.NamedExpr, ast.Div, ast.Import, ast.Delete, ast.AnnAssign, ast.AsyncFor, ast.Match)
+WORDS = re.compile(r"\b(type|typing|enum|Enum|Flag|Generic|Protocol|ABC|namedtuple|overload|dataclass)\b|_wall|Meta")
+
+
+def trees():
+    """Each file's name and its syntax."""
+    return [(path.name, ast.parse(path.read_text())) for path in FILES]
+
+
+def nodes(kind):
+    """All nodes of a kind, each with the name of its file."""
+    return [(name, node) for name, tree in trees() for node in ast.walk(tree) if isinstance(node, kind)]
+
+
+def defined():
+    """All names of attributes and methods of the package's own classes."""
+    names = {node.name for _, node in nodes(ast.FunctionDef)}
+    return names | {node.attr for _, node in nodes(ast.Attribute) if isinstance(node.ctx, ast.Store)}
+
+
+def is_call_of(node, names):
+    return isinstance(node, ast.Call) and isinstance(node.func, ast.Name) and node.func.id in names
+
+
+class Language(unittest.TestCase):
+    def test_files_and_lines(self):
+        self.assertEqual({path.suffix for path in FOLDER.iterdir() if path.name != "__pycache__"}, {".py"})
+        for path in FILES:
+            text = path.read_text()
+            self.assertTrue(all(" " <= sign <= "~" or sign == "\n" for sign in text), path)
+            self.assertLess(len(text.split("\n")), 400, path)
+            self.assertLessEqual(max(len(line) for line in text.split("\n")), 120, path)
+
+    def test_functions_are_small(self):
+        for name, node in nodes(ast.FunctionDef):
+            self.assertLessEqual(node.end_lineno - node.lineno + 1, 40, (name, node.name))
+
+    def test_nothing_barred_stands(self):
+        for name, node in nodes(BARRED):
+            self.fail((name, node.lineno, type(node).__name__))
+
+    def test_module_level(self):
+        for name, tree in trees():
+            for node in tree.body:
+                plain = (ast.ImportFrom, ast.FunctionDef, ast.ClassDef, ast.Expr)
+                if not isinstance(node, plain):
+                    self.assertIsInstance(node, ast.Assign, name)
+                    ast.literal_eval(node.value)
+
+    def test_imports(self):
+        for name, node in nodes(ast.ImportFrom):
+            self.assertTrue(node.module.startswith("filledrow."), name)
+            self.assertEqual([alias.asname for alias in node.names if alias.asname], [])
+        for name, tree in trees():
+            used = {node.id for node in ast.walk(tree) if isinstance(node, ast.Name)}
+            for node in tree.body:
+                if isinstance(node, ast.ImportFrom):
+                    self.assertEqual([alias.name for alias in node.names if alias.name not in used], [], name)
+
+    def test_builtins(self):
+        for name, node in nodes(ast.Name):
+            if hasattr(builtins, node.id):
+                self.assertIsInstance(node.ctx, ast.Load, (name, node.id, node.lineno))
+                self.assertIn(node.id, BUILTINS | {"staticmethod", "classmethod"}, (name, node.lineno))
+        for name, node in nodes(ast.arg):
+            self.assertFalse(hasattr(builtins, node.arg), (name, node.arg))
+
+    def test_decorators(self):
+        for name, node in nodes(ast.FunctionDef):
+            for told in node.decorator_list:
+                self.assertIn(told.id, ("staticmethod", "classmethod"), name)
+        for name, node in nodes(ast.ClassDef):
+            self.assertEqual(node.decorator_list, [], name)
+
+    def test_attributes(self):
+        own = defined()
+        for name, node in nodes(ast.Attribute):
+            self.assertIn(node.attr, own | METHODS | {"__class__", "__name__"}, (name, node.lineno))
+
+    def test_special_methods(self):
+        for name, node in nodes(ast.FunctionDef):
+            if node.name.startswith("__"):
+                self.assertIn(node.name, SPECIAL, name)
+
+    def test_strings_and_numbers(self):
+        for name, tree in trees():
+            told = [node.body[0].value for node in ast.walk(tree)
+                    if isinstance(node, (ast.Module, ast.ClassDef, ast.FunctionDef)) and ast.get_docstring(node)]
+            for node in ast.walk(tree):
+                if isinstance(node, ast.Constant) and node not in told:
+                    self.assertIn(type(node.value), (int, str, bool, type(None)), (name, node.lineno))
+                    if isinstance(node.value, str):
+                        self.assertNotIn("%", node.value)
+                        self.assertIsNone(WORDS.search(node.value), (name, node.lineno))
+
+    def test_what_is_sorted_is_plainly_numbers_or_strings(self):
+        for name, node in nodes(ast.Call):
+            if is_call_of(node, ("sorted",)):
+                keys = [word for word in node.keywords if word.arg == "key"]
+                plain = isinstance(node.args[0], ast.ListComp) and is_call_of(node.args[0].elt, ("int", "str"))
+                self.assertTrue(plain or (keys and keys[0].value.id == "str"), (name, node.lineno))
+            if is_call_of(node, ("min", "max")):
+                self.assertTrue(all(is_call_of(told, ("int", "len")) for told in node.args), (name, node.lineno))
+            if is_call_of(node, ("any", "all", "sum")):
+                self.assertIsInstance(node.args[0], ast.ListComp, (name, node.lineno))
+            if is_call_of(node, ("set",)):
+                self.assertEqual(len(node.args), 1)
+
+    def test_sets_are_only_measured(self):
+        measured = [node.args[0] for _, node in nodes(ast.Call) if is_call_of(node, ("len",))]
+        written = {ast.dump(node) for node in measured}
+        for name, node in nodes(ast.Call):
+            if is_call_of(node, ("set",)):
+                self.assertIn(ast.dump(node), written, (name, node.lineno))
+
+    def test_generators_have_names_of_their_own(self):
+        names = [node.name for _, node in nodes(ast.FunctionDef)]
+        for _, node in nodes(ast.FunctionDef):
+            if any(isinstance(part, (ast.Yield, ast.YieldFrom)) for part in ast.walk(node)):
+                self.assertEqual(names.count(node.name), 1, node.name)
+
+
+if __name__ == "__main__":
+    unittest.main()
