@@ -109,7 +109,6 @@ def find_order(bars):
 
 def orders(bars):
     """All orders that break no bar, ascending; none, at once, if there is a stuck set."""
-    check_bars(bars)
     if find_order(bars):
         masks = masks_of(bars)
         left = (1 << len(masks)) - 1

@@ -162,8 +162,8 @@ class Signs(Case):
                 self.told(BadAmount(value), lambda: value * self.one)
 
     def test_quotients_and_rests(self):
-        self.assertEqual([str(self.one // 2), str(self.one % 2), str(self.one // 1)], [
-            "x y : a 2 1", "x y : a 1 0", "x y : a 5 2"])
+        self.assertEqual([str(self.one // 2), str(self.one % 2), str(self.one // 1), str(self.one % 1)], [
+            "x y : a 2 1", "x y : a 1 0", "x y : a 5 2", "x y : a 0 0"])
         self.assertEqual((self.one * LONG // LONG), self.one)
         for value in NO_COUNTS:
             self.told(BadAmount(value), lambda: self.one // value)

@@ -171,7 +171,8 @@ class BarsRead(Case):
                 ("a x ; a x none none ; a", 8), ("a x a y ; a y none none ; a y", 10), ("a x a y ; a y a x a x", 9),
                 ("a x a y ; a y a y", 8), ("a x a y ; a y none a x", 8), ("a x a y b x ; b x a y a x", 11),
                 ("a x a y ; a x a y none ; a x a y", 13), ("a x a y ; a x none none ; a x", 11), ("a x a y ; b x", 5),
-                ("a x a y ; a z", 6), ("a x a y ; none", 5), ("a x a y ; a x a y none none", 10), ("a y a x", 3), ("a x a x", 3)]:
+                ("a x a y ; a z", 6), ("a x a y b x ; a x a y b x ; a x a y b x", 18),
+                ("a x a y b x ; a x b x none ; a x a y", 15), ("a x a y ; none", 5), ("a x a y ; a x a y none none", 10), ("a y a x", 3), ("a x a x", 3)]:
             self.told(BadText(0, word), Bars.read, text)
 
     def test_the_greatest_name(self):
