@@ -8,9 +8,9 @@ LONGEST_NAME = 8
 NO_NAMES = ("none", "self")
 
 
-def is_integer(value, least):
-    """Whether a value is an integer from the least one on; a bool is none."""
-    return isinstance(value, int) and not isinstance(value, bool) and value >= least
+def is_integer(value, least=None):
+    """Whether a value is an integer, from the least one on if there is one; a bool is none."""
+    return isinstance(value, int) and not isinstance(value, bool) and (least is None or value >= least)
 
 
 def is_amount(value):

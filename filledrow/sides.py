@@ -120,9 +120,4 @@ class Side:
         if words.take_dash():
             words.take_end()
             return cls()
-        amounts = {}
-        name = ""
-        while name == "" or not words.at_end():
-            name = words.take_name("", name)
-            amounts[name] = words.take_number(1)
-        return cls.of(amounts)
+        return cls.of(words.take_numbers(1))

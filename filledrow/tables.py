@@ -2,7 +2,7 @@
 
 from filledrow.errors import BadAmount, BadPair, BadTable, BadWorth, NoName, TooMany
 from filledrow.kinds import MOST_NAMES, ascending, check_names, is_amount, is_integer, is_pair, is_row
-from filledrow.words import Words, number_text
+from filledrow.words import STROKE, Words, number_text
 
 
 def check_table(rows, uses):
@@ -187,20 +187,27 @@ class Table:
     def read(cls, text):
         """The table with this text."""
         words = Words(text)
-        uses = []
-        while words.word_now() != ":":
-            uses.append(words.take_name("", uses[-1] if uses else ""))
-        words.take_one((":",))
-        rows = {}
-        source = ""
-        while not words.at_end():
-            if rows:
-                words.take_one((";",))
-            source = words.take_name("", source)
-            rows[source] = {}
-            for use in uses:
-                rows[source][use] = words.take_number(0)
+        rows, uses = take_rows(words)
+        words.take_end()
         return cls(rows, uses)
+
+
+def take_rows(words):
+    """The rows and the uses of a table. They end with the text, or ahead of a stroke, with which offers go on."""
+    uses = []
+    while words.word_now() != ":":
+        uses.append(words.take_name("", uses[-1] if uses else ""))
+    words.take_one((":",))
+    rows = {}
+    source = ""
+    while words.word_now() not in (None, STROKE):
+        if rows:
+            words.take_one((";",))
+        source = words.take_name("", source)
+        rows[source] = {}
+        for use in uses:
+            rows[source][use] = words.take_number(0)
+    return rows, uses
 
 
 def check_other(other):

@@ -4,6 +4,7 @@ from filledrow.errors import BadText
 from filledrow.kinds import is_name
 
 CHUNK = 64
+STROKE = "|"
 
 
 def number_text(number):
@@ -90,6 +91,15 @@ class Words:
             raise BadText(0, self.at)
         self.at += 1
         return number_of(word)
+
+    def take_numbers(self, least):
+        """All words that are left: names, ascending, at least one, each with an integer from the least one on."""
+        numbers = {}
+        name = ""
+        while name == "" or not self.at_end():
+            name = self.take_name("", name)
+            numbers[name] = self.take_number(least)
+        return numbers
 
     def take_end(self):
         """Nothing: no word may be left."""

@@ -3,8 +3,13 @@
 import unittest
 
 from filledrow import errors
+from filledrow.alike import Apart
 from filledrow.bars import Bars, Example
+from filledrow.best import Optimum
 from filledrow.fillings import Filling
+from filledrow.follows import Fails, Follows
+from filledrow.nested import Crossing, Dearer, Nested, TwoWorths, Unnested
+from filledrow.offers import Coming, Offers
 from filledrow.orders import Order
 from filledrow.peels import Found, Stuck
 from filledrow.sides import Side
@@ -26,7 +31,9 @@ PLAIN = [
 ]
 OBJECTS = [
     Table({"a": {"x": 1}}), Side(a=1), Filling({("a", "x"): 1}), Order(("a", "x")), Bars([("a", "x")]), Found(1),
-    Stuck(()), Example(1, 2, 3, 4), errors.BadName(1),
+    Stuck(()), Example(1, 2, 3, 4), errors.BadName(1), Follows(()), Fails(Order(("a", "x"))),
+    Optimum(Filling({}), {}, {}), Apart(1, 2, 3, 4), Offers(Table({"a": {"x": 1}}), a=1), Coming("x", 1), Nested({}),
+    Unnested(), TwoWorths("a", "x", "y"), Crossing(1, 2, 3, 4, 5), Dearer(1, 2, 3, 4),
 ]
 ANY = PLAIN + OBJECTS
 
@@ -81,6 +88,30 @@ class Case(unittest.TestCase):
         for name in mine:
             self.assertIs(type(mine[name]), type(theirs[name]), (mine, theirs))
             self.assertEqual(mine[name], theirs[name])
+
+    def is_paper(self, kind, fields, truth):
+        """Checks that a class keeps any values in attributes, by position and by name, and compares by them."""
+        plain = [f"value {k}" for k in range(len(fields))]
+        for at, field in enumerate(fields):
+            for value in ANY:
+                told = plain[:at] + [value] + plain[at + 1:]
+                paper, other = kind(*told), kind(**dict(zip(fields, told)))
+                self.assertEqual(list(vars(paper)), fields)
+                self.assertIs(getattr(paper, field), value)
+                self.assertEqual(paper, other)
+                self.assertIs(paper == other, True)
+                self.assertIs(paper == kind(*plain), False)
+                self.assertIs(bool(paper), truth)
+                self.assertIs(paper == value, False)
+            self.assertEqual(kind(*plain[:at], 1, *plain[at + 1:]), kind(*plain[:at], True, *plain[at + 1:]))
+            self.assertNotEqual(kind(*plain[:at], [1], *plain[at + 1:]), kind(*plain[:at], (1,), *plain[at + 1:]))
+        for other in PAPERS:
+            if other != kind:
+                self.assertIs(kind(*plain) == other(*(plain * 5)[:PAPERS[other]]), False)
+
+
+PAPERS = {Found: 1, Stuck: 1, Example: 4, Follows: 1, Fails: 1, Optimum: 3, Apart: 4, Nested: 1, TwoWorths: 3,
+          Crossing: 5, Dearer: 4}
 
 
 def run_examples(case, text, space):

@@ -16,6 +16,10 @@ SIGNS = {
     "bars.Bars": "__init__ __contains__ __len__ __iter__ __or__ __and__ __sub__ __le__ __lt__ __ge__ __gt__ __eq__"
                  " __invert__ __str__",
     "bars.Example": "__init__ __eq__", "peels.Found": "__init__ __eq__", "peels.Stuck": "__init__ __eq__ __bool__",
+    "follows.Follows": "__init__ __eq__", "follows.Fails": "__init__ __eq__ __bool__", "best.Optimum": "__init__ __eq__",
+    "alike.Apart": "__init__ __eq__ __bool__", "offers.Offers": "__init__ __len__ __iter__ __contains__ __eq__ __str__",
+    "offers.Coming": "__init__ __eq__", "nested.Nested": "__init__ __eq__", "nested.Unnested": "__bool__",
+    "nested.TwoWorths": "__init__ __eq__", "nested.Crossing": "__init__ __eq__", "nested.Dearer": "__init__ __eq__",
 }
 CALLS = {
     "tables.Table": "(rows, uses=())", "tables.Table.scope": "(self, source)", "tables.Table.takers": "(self, use)",
@@ -36,7 +40,23 @@ CALLS = {
     "bars.Example": "(sources, uses, worse, better)", "look_bars.shows_example": "(table, order, paper)",
     "peels.free_pairs": "(bars, left)", "peels.find_order": "(bars)", "peels.orders": "(bars)",
     "peels.count_orders": "(bars)", "peels.firsts": "(bars)", "peels.lasts": "(bars)", "peels.narrowed": "(bars)",
-    "peels.Found": "(order)", "peels.Stuck": "(held)",
+    "peels.Found": "(order)", "peels.Stuck": "(held)", "look_peels.shows_found": "(bars, paper)",
+    "look_peels.shows_stuck": "(bars, paper)", "follows.Follows": "(held)", "follows.Fails": "(order)",
+    "follows.follows": "(bars, bar)", "follows.same_orders": "(one, other)", "follows.surely_ahead": "(bars)",
+    "follows.last_place": "(bars, pair)", "follows.thinned": "(bars)", "follows.closed": "(bars)",
+    "look_follows.shows_follows": "(bars, bar, paper)", "best.Optimum": "(filling, source_prices, use_prices)",
+    "best.best": "(table, sources, uses)", "best.best_used_up": "(table, sources, uses)",
+    "best.shortfall": "(order, table, sources, uses)", "best.extra": "(table, sources, uses, name, is_source=True)",
+    "look_best.shows_best": "(table, sources, uses, paper)", "look_best.shows_used_up": "(table, sources, uses, paper)",
+    "alike.Apart": "(first, then, sources, uses)", "alike.alike": "(one, other)", "alike.shows_apart": "(one, other, paper)",
+    "alike.normal": "(order)", "alike.alike_orders": "(order)", "alike.count_alike": "(order)",
+    "alike.exchanges": "(one, other)", "alike.shows_exchanges": "(one, other, value)", "offers.Offers": "(table, **ends)",
+    "offers.Offers.of": "(table, ends)", "offers.Offers.end": "(self, source)", "offers.Offers.servers": "(self, use, day)",
+    "offers.Offers.no_wider": "(self, one, other)", "offers.Offers.ended": "(self, source, day)",
+    "offers.Offers.read": "(text)", "offers.Coming": "(use, amount, day=0)", "nested.nested": "(offers)",
+    "nested.Nested": "(lists)", "nested.TwoWorths": "(source, less, more)",
+    "nested.Crossing": "(one, other, shared, by_one, by_other)", "nested.Dearer": "(narrow, wide, shared, beyond)",
+    "nested.narrow_order": "(offers)", "look_nested.shows_nested": "(offers, value)",
 }
 
 
@@ -72,8 +92,12 @@ class Interface(unittest.TestCase):
             value, _ = found(path)
             if path.endswith((".read", ".of")):
                 self.assertIsInstance(value, classmethod, path)
-            if path.endswith((".flat", ".rated", ".by_worth", ".by_sources", ".best", ".used_up", ".ahead", ".seen")):
+            if path.count(".") == 2 and path.endswith((".flat", ".rated", ".by_worth", ".by_sources", ".best", ".used_up", ".ahead", ".seen")):
                 self.assertIsInstance(value, staticmethod, path)
+
+    def test_properties(self):
+        told = vars(found("offers.Offers")[0])["ends"]
+        self.assertEqual([type(told), told.fset, told.fdel], [property, None, None])
 
     def test_no_sign_changes_in_place(self):
         for path in SIGNS:

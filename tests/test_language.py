@@ -12,7 +12,7 @@ FOLDER = pathlib.Path(filledrow.__file__).parent
 FILES = sorted(FOLDER.glob("*.py"))
 BUILTINS = set(
     "len range enumerate zip min max sum abs sorted reversed int str bool bytes list tuple dict set isinstance ord repr"
-    " any all divmod iter next ValueError NotImplemented".split())
+    " any all divmod iter next property ValueError NotImplemented".split())
 METHODS = set(
     "append clear copy count endswith extend find get index insert isalnum isalpha isdigit islower isspace isupper items"
     " join keys ljust lower lstrip partition pop remove replace reverse rfind rjust rpartition rsplit rstrip setdefault"
@@ -91,7 +91,7 @@ class Language(unittest.TestCase):
     def test_decorators(self):
         for name, node in nodes(ast.FunctionDef):
             for told in node.decorator_list:
-                self.assertIn(told.id, ("staticmethod", "classmethod"), name)
+                self.assertIn(told.id, ("staticmethod", "classmethod", "property"), name)
         for name, node in nodes(ast.ClassDef):
             self.assertEqual(node.decorator_list, [], name)
 
@@ -123,7 +123,8 @@ class Language(unittest.TestCase):
                 plain = isinstance(node.args[0], ast.ListComp) and is_call_of(node.args[0].elt, ("int", "str"))
                 self.assertTrue(plain or (keys and keys[0].value.id == "str"), (name, node.lineno))
             if is_call_of(node, ("min", "max")):
-                self.assertTrue(all(is_call_of(told, ("int", "len")) for told in node.args), (name, node.lineno))
+                told = [arg.elt if isinstance(arg, ast.ListComp) else arg for arg in node.args]
+                self.assertTrue(all(is_call_of(part, ("int", "len")) for part in told), (name, node.lineno))
             if is_call_of(node, ("any", "all", "sum")):
                 self.assertIsInstance(node.args[0], ast.ListComp, (name, node.lineno))
             if is_call_of(node, ("set",)):
@@ -135,6 +136,28 @@ class Language(unittest.TestCase):
         for name, node in nodes(ast.Call):
             if is_call_of(node, ("set",)):
                 self.assertIn(ast.dump(node), written, (name, node.lineno))
+
+    def test_no_name_is_a_method_and_an_attribute(self):
+        methods = {part.name for _, node in nodes(ast.ClassDef) for part in node.body if isinstance(part, ast.FunctionDef)}
+        stored = {node.attr for _, node in nodes(ast.Attribute) if isinstance(node.ctx, ast.Store)}
+        self.assertEqual(methods & stored, set())
+
+    def test_imported_names_mean_nothing_else(self):
+        for name, tree in trees():
+            bound = [alias.name for node in tree.body if isinstance(node, ast.ImportFrom) for alias in node.names]
+            bound += [node.name for node in tree.body if isinstance(node, (ast.ClassDef, ast.FunctionDef))]
+            self.assertEqual(len(bound), len(set(bound)), name)
+            told = {node.id for node in ast.walk(tree) if isinstance(node, ast.Name) and isinstance(node.ctx, ast.Store)}
+            told |= {node.arg for node in ast.walk(tree) if isinstance(node, ast.arg)}
+            self.assertEqual(told & set(bound), set(), name)
+
+    def test_no_two_files_import_from_each_other(self):
+        known = {name[:-3]: {node.module.partition(".")[2] for node in tree.body if isinstance(node, ast.ImportFrom)}
+                 for name, tree in trees()}
+        while known:
+            free = [name for name, needed in known.items() if not needed & set(known)]
+            self.assertNotEqual(free, [], known)
+            known = {name: needed for name, needed in known.items() if name not in free}
 
     def test_generators_have_names_of_their_own(self):
         names = [node.name for _, node in nodes(ast.FunctionDef)]
