@@ -40,7 +40,8 @@ class Offers:
         check_table(table)
         if not isinstance(ends, dict):
             raise BadOffer("ends")
-        made = cls(table)
+        # By its own name: what is called `of` is called by signs, and nothing that is passed may be called there.
+        made = Offers(table)
         # Not by keywords: a source can be called `table`, too.
         made._ends = kept_ends(table, ends)
         return made

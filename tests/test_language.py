@@ -2,6 +2,7 @@
 
 import ast
 import builtins
+import functools
 import pathlib
 import re
 import unittest
@@ -25,6 +26,7 @@ BARRED = (ast.Try, ast.With, ast.Global, ast.Nonlocal, ast.GeneratorExp, ast.Asy
 WORDS = re.compile(r"\b(type|typing|enum|Enum|Flag|Generic|Protocol|ABC|namedtuple|overload|dataclass)\b|_wall|Meta")
 
 
+@functools.cache
 def trees():
     """Each file's name and its syntax."""
     return [(path.name, ast.parse(path.read_text())) for path in FILES]
@@ -43,6 +45,62 @@ def defined():
 
 def is_call_of(node, names):
     return isinstance(node, ast.Call) and isinstance(node.func, ast.Name) and node.func.id in names
+
+
+def called_names(node):
+    """The names that a function calls, and those of the properties that it reads."""
+    calls = [part.func for part in ast.walk(node) if isinstance(part, ast.Call)]
+    read = [part for part in ast.walk(node) if isinstance(part, ast.Attribute) and isinstance(part.ctx, ast.Load)]
+    return ({func.id for func in calls if isinstance(func, ast.Name)} | {part.attr for part in read if part.attr in properties()}
+            | {func.attr for func in calls if isinstance(func, ast.Attribute)})
+
+
+@functools.cache
+def properties():
+    """The names of all properties."""
+    return {node.name for _, node in nodes(ast.FunctionDef) if [told for told in node.decorator_list if is_named(told, "property")]}
+
+
+def is_named(node, name):
+    return isinstance(node, ast.Name) and node.id == name
+
+
+def behind_signs():
+    """All functions that a sign, a comparison, `str`, `len` or a property runs, by whatever name it calls them."""
+    known = {}
+    for name, node in nodes((ast.FunctionDef, ast.ClassDef)):
+        if not [told for told in node.decorator_list if isinstance(told, ast.Attribute)]:
+            known.setdefault(node.name, []).append((name, node))
+    free = SPECIAL - {"__init__", "__call__", "__iter__", "__setitem__", "__enter__", "__exit__"}
+    told, names = [], list(free | properties())
+    for at in names:
+        for name, node in known.get(at, []):
+            if isinstance(node, ast.ClassDef):
+                node = next((part for part in node.body if getattr(part, "name", None) == "__init__"), None)
+            if node is not None and (name, node) not in told:
+                told.append((name, node))
+                names.extend(sorted(called_names(node) - set(names)))
+    return told
+
+
+def made_by_name(node):
+    """The local variables of a function that it assigns nothing but objects made by the names of their classes."""
+    classes = {part.name for _, part in nodes(ast.ClassDef)}
+    told = {}
+    for part in ast.walk(node):
+        if isinstance(part, ast.Assign) and isinstance(part.targets[0], ast.Name):
+            told.setdefault(part.targets[0].id, []).append(is_call_of(part.value, classes))
+    return {name for name, made in told.items() if all(made)}
+
+
+def strange_changes(node):
+    """The rows of a function that set an attribute of something else than what it made, or call what it was passed."""
+    passed = [arg.arg for arg in ast.walk(node.args) if isinstance(arg, ast.arg)]
+    own = made_by_name(node) | ({passed[0]} if node.name == "__init__" else set())
+    stored = [part for part in ast.walk(node) if isinstance(part, ast.Attribute) and not isinstance(part.ctx, ast.Load)]
+    local = {part.id for part in ast.walk(node) if isinstance(part, ast.Name) and isinstance(part.ctx, ast.Store)}
+    rows = [part.lineno for part in stored if not isinstance(part.value, ast.Name) or part.value.id not in own]
+    return rows + [part.lineno for part in ast.walk(node) if is_call_of(part, local | set(passed))]
 
 
 class Language(unittest.TestCase):
@@ -104,6 +162,22 @@ class Language(unittest.TestCase):
         for name, node in nodes(ast.FunctionDef):
             if node.name.startswith("__"):
                 self.assertIn(node.name, SPECIAL, name)
+
+    def test_what_signs_run_changes_nothing(self):
+        told = behind_signs()
+        self.assertIn("of", {node.name for _, node in told})
+        for name, node in told:
+            self.assertEqual(strange_changes(node), [], (name, node.name))
+
+    def test_the_look_at_what_signs_run(self):
+        for text, rows in [
+                ("def of(cls, ends):\n    made = cls()\n    made.ends = ends\n    return made", [3, 2]),
+                ("def of(cls, ends):\n    made = Offers(ends)\n    made.ends = ends\n    return made", []),
+                ("def of(cls, ends):\n    made = Offers(ends)\n    made = ends\n    made.ends = 1", [4]),
+                ("def of(cls, ends):\n    ends.table = 1", [2]), ("def of(cls, ends):\n    return ends()", [2]),
+                ("def of(cls, *, ends):\n    work = ends.work\n    return work(1)", [3]),
+                ("def of(cls, ends):\n    ends.table.n += 1", [2]), ("def __init__(one, ends):\n    one.ends = ends", [])]:
+            self.assertEqual(strange_changes(ast.parse(text).body[0]), rows, text)
 
     def test_strings_and_numbers(self):
         for name, tree in trees():
