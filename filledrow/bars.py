@@ -192,12 +192,17 @@ def check_other(bars, other):
         raise BadBars("other")
 
 
-def check_seen(sources, uses, filling):
-    """Raises BadSeen for what is no seen filling."""
+def check_seen_sides(sources, uses):
+    """Raises BadSeen with the name of the first one that is no Side."""
     if not isinstance(sources, Side):
         raise BadSeen("sources")
     if not isinstance(uses, Side):
         raise BadSeen("uses")
+
+
+def check_seen(sources, uses, filling):
+    """Raises BadSeen for what is no seen filling."""
+    check_seen_sides(sources, uses)
     if not isinstance(filling, Filling):
         raise BadSeen("filling")
     if not filling.fits(sources, uses):

@@ -142,13 +142,19 @@ class Filling:
     def read(cls, text):
         """The Filling with this text."""
         words = Words(text)
-        if words.take_dash():
-            words.take_end()
-            return cls({})
-        pair = words.take_pair()
-        amounts = {pair: words.take_number(1)}
-        while not words.at_end():
-            words.take_one((";",))
-            pair = words.take_pair(pair)
-            amounts[pair] = words.take_number(1)
+        amounts = take_filled(words)
+        words.take_end()
         return cls(amounts)
+
+
+def take_filled(words):
+    """The amounts of a filling, which end with the text."""
+    if words.take_dash():
+        return {}
+    pair = words.take_pair()
+    amounts = {pair: words.take_number(1)}
+    while not words.at_end():
+        words.take_one((";",))
+        pair = words.take_pair(pair)
+        amounts[pair] = words.take_number(1)
+    return amounts

@@ -117,7 +117,13 @@ class Side:
     def read(cls, text):
         """The Side with this text."""
         words = Words(text)
-        if words.take_dash():
-            words.take_end()
-            return cls()
-        return cls.of(words.take_numbers(1))
+        amounts = take_amounts(words)
+        words.take_end()
+        return cls.of(amounts)
+
+
+def take_amounts(words, sign=None):
+    """The amounts of a side. They end with the text, or ahead of a sign if one is told."""
+    if words.take_dash():
+        return {}
+    return words.take_numbers(1, sign)

@@ -92,11 +92,14 @@ class Words:
         self.at += 1
         return number_of(word)
 
-    def take_numbers(self, least):
-        """All words that are left: names, ascending, at least one, each with an integer from the least one on."""
+    def take_numbers(self, least, sign=None):
+        """Names, ascending, at least one, each with an integer from the least one on.
+
+        They end with the text, or ahead of a sign if one is told.
+        """
         numbers = {}
         name = ""
-        while name == "" or not self.at_end():
+        while name == "" or self.word_now() not in (None, sign):
             name = self.take_name("", name)
             numbers[name] = self.take_number(least)
         return numbers

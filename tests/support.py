@@ -6,12 +6,16 @@ from filledrow import errors
 from filledrow.alike import Apart
 from filledrow.bars import Bars, Example
 from filledrow.best import Optimum
+from filledrow.bysides import BySides, StuckSides
 from filledrow.fillings import Filling
+from filledrow.foe import Foe, Game
 from filledrow.follows import Fails, Follows
 from filledrow.nested import Crossing, Dearer, Nested, TwoWorths, Unnested
 from filledrow.offers import Coming, Offers
 from filledrow.orders import Order
 from filledrow.peels import Found, Stuck
+from filledrow.rules import By, Dearest, Listed, Narrowest, Served
+from filledrow.seen import Asking, Seen
 from filledrow.sides import Side
 from filledrow.tables import Table
 
@@ -33,7 +37,10 @@ OBJECTS = [
     Table({"a": {"x": 1}}), Side(a=1), Filling({("a", "x"): 1}), Order(("a", "x")), Bars([("a", "x")]), Found(1),
     Stuck(()), Example(1, 2, 3, 4), errors.BadName(1), Follows(()), Fails(Order(("a", "x"))),
     Optimum(Filling({}), {}, {}), Apart(1, 2, 3, 4), Offers(Table({"a": {"x": 1}}), a=1), Coming("x", 1), Nested({}),
-    Unnested(), TwoWorths("a", "x", "y"), Crossing(1, 2, 3, 4, 5), Dearer(1, 2, 3, 4),
+    Unnested(), TwoWorths("a", "x", "y"), Crossing(1, 2, 3, 4, 5), Dearer(1, 2, 3, 4), Narrowest(), Listed({"x": ["a"]}),
+    By(some_function), Narrowest() | Dearest(), Served((), Side(), 0), Foe(Offers(Table({"a": {"x": 1, "y": 2}}))),
+    Game(Side(), (), (), ()), Seen(Side(a=1), Side(x=1), Filling({("a", "x"): 1})), Asking(1, 2, 3, 4),
+    BySides((), Order()), StuckSides(()),
 ]
 ANY = PLAIN + OBJECTS
 
@@ -111,7 +118,7 @@ class Case(unittest.TestCase):
 
 
 PAPERS = {Found: 1, Stuck: 1, Example: 4, Follows: 1, Fails: 1, Optimum: 3, Apart: 4, Nested: 1, TwoWorths: 3,
-          Crossing: 5, Dearer: 4}
+          Crossing: 5, Dearer: 4, Served: 3, Game: 4, Asking: 4, BySides: 2, StuckSides: 1}
 
 
 def run_examples(case, text, space):

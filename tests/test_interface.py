@@ -20,6 +20,12 @@ SIGNS = {
     "alike.Apart": "__init__ __eq__ __bool__", "offers.Offers": "__init__ __len__ __iter__ __contains__ __eq__ __str__",
     "offers.Coming": "__init__ __eq__", "nested.Nested": "__init__ __eq__", "nested.Unnested": "__bool__",
     "nested.TwoWorths": "__init__ __eq__", "nested.Crossing": "__init__ __eq__", "nested.Dearer": "__init__ __eq__",
+    "rules.Rule": "__call__ __or__", "rules.Narrowest": "__call__ __or__ __eq__ __str__",
+    "rules.Dearest": "__call__ __or__ __eq__ __str__", "rules.Soonest": "__call__ __or__ __eq__ __str__",
+    "rules.Listed": "__init__ __call__ __or__ __eq__ __str__", "rules.By": "__init__ __call__ __or__ __eq__ __str__",
+    "rules.Served": "__init__ __eq__", "foe.Foe": "__init__", "foe.Game": "__init__ __eq__",
+    "seen.Seen": "__init__ __eq__ __str__", "seen.Asking": "__init__ __eq__", "bysides.BySides": "__init__ __eq__",
+    "bysides.StuckSides": "__init__ __eq__ __bool__",
 }
 CALLS = {
     "tables.Table": "(rows, uses=())", "tables.Table.scope": "(self, source)", "tables.Table.takers": "(self, use)",
@@ -57,6 +63,28 @@ CALLS = {
     "nested.Nested": "(lists)", "nested.TwoWorths": "(source, less, more)",
     "nested.Crossing": "(one, other, shared, by_one, by_other)", "nested.Dearer": "(narrow, wide, shared, beyond)",
     "nested.narrow_order": "(offers)", "look_nested.shows_nested": "(offers, value)",
+    "rules.Rule.read": "(text)", "rules.Rule.__call__": "(self, use, amount, day, left, offers)",
+    "rules.Narrowest": "()", "rules.Narrowest.row": "(self, use, day, offers)",
+    "rules.Narrowest.__call__": "(self, use, amount, day, left, offers)",
+    "rules.Dearest": "()", "rules.Dearest.row": "(self, use, day, offers)",
+    "rules.Dearest.__call__": "(self, use, amount, day, left, offers)",
+    "rules.Soonest": "()", "rules.Soonest.row": "(self, use, day, offers)",
+    "rules.Soonest.__call__": "(self, use, amount, day, left, offers)",
+    "rules.Listed": "(lists)", "rules.Listed.row": "(self, use, day, offers)",
+    "rules.Listed.__call__": "(self, use, amount, day, left, offers)",
+    "rules.By": "(work)", "rules.By.__call__": "(self, use, amount, day, left, offers)",
+    "rules.serve": "(rule, offers, sources, comings)", "rules.Served": "(taken, left, earned)",
+    "rules.hindsight": "(offers, sources, comings)", "rules.first_loss": "(rule, offers, sources, comings)",
+    "foe.Foe": "(offers)", "foe.Foe.play": "(self, rule)", "foe.Game": "(sources, comings, taken, better)",
+    "foe.shows_game": "(offers, value)", "seen.Seen": "(sources, uses, filling)",
+    "seen.Seen.by": "(order, sources, uses)", "seen.Seen.bars": "(self, pairs)",
+    "seen.Seen.is_explained": "(self, order)", "seen.Seen.read": "(text)", "seen.explained": "(pairs, seens)",
+    "seen.told_ahead": "(pairs, seens)", "seen.ask_next": "(pairs, seens)",
+    "seen.shows_asking": "(pairs, seens, paper, one, other)", "seen.Asking": "(sources, uses, first, then)",
+    "ranges.worth_range": "(table, order, pair)", "ranges.worth_ranges": "(table, order)",
+    "ranges.stays_best": "(table, order, pair, worth)", "ranges.raised": "(table, by_source, by_use)",
+    "bysides.BySides": "(names, order)", "bysides.StuckSides": "(held)", "bysides.find_by_sources": "(bars)",
+    "bysides.find_by_uses": "(bars)",
 }
 
 
@@ -90,10 +118,17 @@ class Interface(unittest.TestCase):
     def test_class_methods_and_static_methods(self):
         for path in CALLS:
             value, _ = found(path)
-            if path.endswith((".read", ".of")):
+            if path.endswith((".read", ".of")) and path != "rules.Rule.read":
                 self.assertIsInstance(value, classmethod, path)
-            if path.count(".") == 2 and path.endswith((".flat", ".rated", ".by_worth", ".by_sources", ".best", ".used_up", ".ahead", ".seen")):
+            if path.count(".") == 2 and (path == "rules.Rule.read" or path.endswith((
+                    ".flat", ".rated", ".by_worth", ".by_sources", ".best", ".used_up", ".ahead", ".seen", ".by"))):
                 self.assertIsInstance(value, staticmethod, path)
+
+    def test_rules(self):
+        base, _ = found("rules.Rule")
+        for name in ("Narrowest", "Dearest", "Soonest", "Listed", "By"):
+            self.assertEqual(found("rules." + name)[0].__bases__, (base,))
+        self.assertEqual([hasattr(value, "row") for value in (base, found("rules.By")[0])], [False, False])
 
     def test_properties(self):
         told = vars(found("offers.Offers")[0])["ends"]

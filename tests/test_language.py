@@ -21,7 +21,7 @@ METHODS = set(
 SPECIAL = set(
     "__init__ __eq__ __str__ __len__ __call__ __iter__ __lt__ __le__ __gt__ __ge__ __add__ __sub__ __mul__ __rmul__"
     " __floordiv__ __mod__ __and__ __or__ __invert__ __bool__ __contains__ __getitem__".split())
-BARRED = (ast.Try, ast.With, ast.Global, ast.Nonlocal, ast.GeneratorExp, ast.AsyncFunctionDef, ast.Await, ast.SetComp,
+BARRED = (ast.With, ast.Global, ast.Nonlocal, ast.GeneratorExp, ast.AsyncFunctionDef, ast.Await, ast.SetComp,
           ast.Set, ast.Lambda, ast.NamedExpr, ast.Div, ast.Import, ast.Delete, ast.AnnAssign, ast.AsyncFor, ast.Match)
 WORDS = re.compile(r"\b(type|typing|enum|Enum|Flag|Generic|Protocol|ABC|namedtuple|overload|dataclass)\b|_wall|Meta")
 
@@ -119,6 +119,13 @@ class Language(unittest.TestCase):
     def test_nothing_barred_stands(self):
         for name, node in nodes(BARRED):
             self.fail((name, node.lineno, type(node).__name__))
+
+    def test_only_own_errors_are_caught(self):
+        own = {node.name for name, node in nodes(ast.ClassDef) if name == "errors.py"}
+        for name, node in nodes(ast.Try):
+            self.assertEqual([type(told.type) for told in node.handlers if not isinstance(told.type, ast.Name)], [], name)
+            self.assertEqual([told.type.id for told in node.handlers if told.type.id not in own], [], name)
+            self.assertEqual(node.orelse, [], name)
 
     def test_module_level(self):
         for name, tree in trees():
