@@ -47,12 +47,12 @@ def found_by(bars, end):
     groups = {name: group_of(bars, end, name) for name in names_at(bars, end)}
     left = (1 << len(masks)) - 1
     names, row = [], []
-    name = next_name(masks, left, groups, names)
+    name = next_name(masks, left, groups)
     while name is not None:
         names.append(name)
         row.extend(peeled(masks, left, groups[name]))
         left = left - bits_of(groups[name])
-        name = next_name(masks, left, groups, names)
+        name = next_name(masks, left, groups)
     if left == 0:
         return BySides(tuple(names), Order.of([bars.pairs[k] for k in row]))
     stuck = [other for other in groups if other not in names]
@@ -74,10 +74,10 @@ def bits_of(group):
     return sum([1 << k for k in group])
 
 
-def next_name(masks, left, groups, names):
-    """The least name that is not taken off and whose pairs can all be taken off, None if there is none."""
+def next_name(masks, left, groups):
+    """The least name that is left and whose pairs can all be taken off, None if there is none."""
     for name in groups:
-        if name not in names and len(peeled(masks, left, groups[name])) == len(groups[name]):
+        if len(peeled(masks, left, groups[name])) == len(groups[name]):
             return name
     return None
 

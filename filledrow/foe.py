@@ -26,7 +26,6 @@ class Foe:
     """Whoever brings comings against rules for offers that are not nested."""
 
     def __init__(self, offers):
-        check_offers(offers)
         reason = nested(offers)
         if reason:
             raise IsNested()

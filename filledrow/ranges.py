@@ -109,7 +109,5 @@ def raised(table, by_source, by_use):
     rows = {}
     for a in table.sources:
         rows[a] = {x: table[a, x] + by_source.get(a, 0) + by_use.get(x, 0) for x in table.uses}
-        for worth in rows[a].values():
-            if worth < 0:
-                raise BadWorth(worth)
+    # The rows ascend, so the first worth that the Table refuses is the first one by pairs.
     return Table(rows, table.uses)

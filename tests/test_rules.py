@@ -404,6 +404,12 @@ class Hindsight(Case):
             losses = [at for at in range(len(comings)) if earned[at + 1] < wanted[at + 1]]
             self.assertEqual(first_loss(rule=rule, offers=offers, sources=sources, comings=comings), losses[0] if losses else None)
 
+    def test_not_all_that_can_be_served_is(self):
+        offers = Offers(Table({"a": {"x": 10, "y": 1}, "b": {"x": 1}}))
+        comings = [Coming("x", LONG), Coming("y", LONG)]
+        self.assertEqual(hindsight(offers, Side(a=LONG, b=LONG), comings), 10 * LONG)
+        self.assertEqual(hindsight(offers, Side(a=LONG + 3, b=LONG), comings), 10 * LONG + 3)
+
     def test_far_amounts_that_are_no_multiples(self):
         chance = random.Random(6)
         offers = Offers(Table({a: {x: chance.randint(0, 10 ** 29) for x in "uvwxyz"} for a in "abcdef"}), b=9, c=20, d=30)
