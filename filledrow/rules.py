@@ -5,6 +5,7 @@ from filledrow.flows import best_amounts
 from filledrow.kinds import check_names, is_amount, is_name, is_row
 from filledrow.offers import Offers, check_comings
 from filledrow.sides import Side
+from filledrow.walks import taken_in_turn
 from filledrow.words import STROKE, Words
 
 WORDS = ("narrowest", "dearest", "soonest", "listed")
@@ -252,18 +253,6 @@ def ranked(ranks):
     for name in ranks:
         row.insert(len([other for other in row if ranks[other] <= ranks[name]]), name)
     return tuple(row)
-
-
-def taken_in_turn(row, amount, left):
-    """What is taken of the sources of a row: of each, in turn, what is still lacking, or all that is left."""
-    taken = {}
-    lacking = amount
-    for source in row:
-        most = min(int(left[source]), int(lacking))
-        if most > 0:
-            taken[source] = most
-            lacking -= most
-    return taken
 
 
 class Served:

@@ -1,4 +1,4 @@
-"""The walk through pairs: each gets the lesser one of what its source and its use have left."""
+"""Walks through a row: each pair, or each name, takes the lesser one of what is left and what is lacking."""
 
 
 def walk(pairs, sources, uses):
@@ -13,3 +13,15 @@ def walk(pairs, sources, uses):
         use_left[use] = use_left[use] - taken
         rows.append((pair, taken, source_left[source], use_left[use]))
     return rows
+
+
+def taken_in_turn(row, amount, left):
+    """What is taken of the items of a row, above 0: of each, in turn, what is still lacking, or all that is left."""
+    taken = {}
+    lacking = amount
+    for item in row:
+        most = min(int(left[item]), int(lacking))
+        if most > 0:
+            taken[item] = most
+            lacking -= most
+    return taken

@@ -7,9 +7,11 @@ from filledrow.alike import Apart
 from filledrow.bars import Bars, Example
 from filledrow.best import Optimum
 from filledrow.bysides import BySides, StuckSides
+from filledrow.desk import Desk
 from filledrow.fillings import Filling
 from filledrow.foe import Foe, Game
 from filledrow.follows import Fails, Follows
+from filledrow.ledger import Ledger
 from filledrow.nested import Crossing, Dearer, Nested, TwoWorths, Unnested
 from filledrow.offers import Coming, Offers
 from filledrow.orders import Order
@@ -40,7 +42,7 @@ OBJECTS = [
     Unnested(), TwoWorths("a", "x", "y"), Crossing(1, 2, 3, 4, 5), Dearer(1, 2, 3, 4), Narrowest(), Listed({"x": ["a"]}),
     By(some_function), Narrowest() | Dearest(), Served((), Side(), 0), Foe(Offers(Table({"a": {"x": 1, "y": 2}}))),
     Game(Side(), (), (), ()), Seen(Side(a=1), Side(x=1), Filling({("a", "x"): 1})), Asking(1, 2, 3, 4),
-    BySides((), Order()), StuckSides(()),
+    BySides((), Order()), StuckSides(()), Ledger(Table({"a": {"x": 1}}), Order(("a", "x"))), Desk(),
 ]
 ANY = PLAIN + OBJECTS
 

@@ -219,16 +219,54 @@ RANGES = """
 raises BadOrder('scope')
 """
 
-# What this section asks of filledrow.look_bysides is left out: that module belongs to a later stage.
 BYSIDES = """
 >>> from filledrow.bysides import BySides, StuckSides, find_by_sources, find_by_uses
+>>> from filledrow.look_bysides import shows_by_sources, shows_by_uses, shows_stuck_sources, shows_stuck_uses
 >>> found = find_by_sources(Bars.best(flat))
->>> [found.names, list(found.order), find_by_uses(Bars.best(flat)).names]
-[('a', 'b'), [('a', 'x'), ('a', 'y'), ('b', 'y'), ('b', 'z')], ('x', 'y', 'z')]
+>>> [found.names, list(found.order), shows_by_sources(Bars.best(flat), found), find_by_uses(Bars.best(flat)).names]
+[('a', 'b'), [('a', 'x'), ('a', 'y'), ('b', 'y'), ('b', 'z')], True, ('x', 'y', 'z')]
 >>> cross = Bars.best(Table({"a": {"x": 1, "y": 2}, "b": {"x": 2, "y": 1}}))
 >>> stuck = find_by_sources(cross)
 >>> [bool(stuck), [(source, [pair for pair, bar in some]) for source, some in stuck.held], bool(find_order(cross))]
 [False, [('a', [('a', 'x')]), ('b', [('b', 'y')])], True]
+>>> [shows_stuck_sources(cross, stuck), shows_stuck_sources(cross, StuckSides(stuck.held[:1]))]
+[True, False]
+"""
+
+LEDGER = """
+>>> from filledrow.ledger import Ledger
+>>> table = Table({"a": {"x": 1, "y": 1}, "b": {"y": 1, "z": 1}})
+>>> ledger = Ledger(table, Order(("a", "x"), ("b", "z"), ("a", "y"), ("b", "y")))
+>>> [str(ledger.credit("a", 5)), str(ledger.credit("b", 2)), str(ledger.bill("y", 6)), str(ledger.bill("x", 3)), str(ledger.free), str(ledger.open_now)]
+['-', '-', 'a y 5 ; b y 1', '-', 'b 1', 'x 3']
+>>> [str(ledger.refilled()), ledger.gap(), [str(one) for one in ledger.refill()], str(ledger.open_now), len(ledger), ledger.undo(), ledger["a", "y"]]
+['a x 3 ; a y 2 ; b y 2', 1, ['a y 3', 'a x 3 ; b y 1'], 'y 2', 5, 'refill', 5]
+>>> [str(ledger.cancel("y", 2)), str(ledger.filling), ledger.lapse("b"), list(ledger)]
+['a y 1 ; b y 1', 'a x 1 ; a y 4', 2, ['credit', 'credit', 'bill', 'bill', 'cancel', 'lapse']]
+>>> ledger.cancel("y", 7)
+raises Lacking('y')
+>>> ledger.credit("x", 1)
+raises NoName('x')
+"""
+
+# A row of the text is parted at a newline, which a text in three quotes has to write with two strokes.
+TEXTS = """
+>>> from filledrow.reading import read_ledger
+>>> from filledrow.texts import ledger_text
+>>> lines = ledger_text(ledger).split("\\n")
+>>> [len(lines), lines[2:], read_ledger(ledger_text(ledger)) == ledger]
+[5, ['sources a 5', 'uses x 3 y 4', 'filling a x 1 ; a y 4'], True]
+"""
+
+DESK = """
+>>> from filledrow.desk import Desk
+>>> desk = Desk()
+>>> desk.run("table x y z : a 1 1 0 ; b 0 1 1", "sources a 1 b 1", "uses y 1 z 1", "order a x ; b y ; a y ; b z", "fill", "best", "judge", "find")
+['ok', 'ok', 'ok', 'ok', 'b y 1 = 1', '2 - 1', 'b y a y b z', 'a x ; a y ; b y ; b z']
+>>> desk.run("order a x ; b z ; a y ; b y", "fill", "judge", "alike a x ; a y ; b z ; b y", "nested", "undo", "fill")
+['ok', 'a y 1 ; b z 1 = 2', 'best', 'yes', 'crossing', 'ok', 'b y 1 = 1']
+>>> desk.ask("order a x ; b")
+raises BadLine(5)
 """
 
 
@@ -237,7 +275,7 @@ class Examples(Case):
 
     def test_examples(self):
         space = {}
-        for text in (TABLES, SIDES, FILLINGS, FILLS, BARS, PEELS, FOLLOWS, BEST, ALIKE, FOE, SEEN, RANGES, BYSIDES):
+        for text in (TABLES, SIDES, FILLINGS, FILLS, BARS, PEELS, FOLLOWS, BEST, ALIKE, FOE, SEEN, RANGES, BYSIDES, LEDGER, TEXTS, DESK):
             run_examples(self, text, space)
 
 

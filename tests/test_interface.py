@@ -26,6 +26,7 @@ SIGNS = {
     "rules.Served": "__init__ __eq__", "foe.Foe": "__init__", "foe.Game": "__init__ __eq__",
     "seen.Seen": "__init__ __eq__ __str__", "seen.Asking": "__init__ __eq__", "bysides.BySides": "__init__ __eq__",
     "bysides.StuckSides": "__init__ __eq__ __bool__",
+    "ledger.Ledger": "__init__ __getitem__ __setitem__ __len__ __iter__ __eq__", "desk.Desk": "__init__ __len__ __call__",
 }
 CALLS = {
     "tables.Table": "(rows, uses=())", "tables.Table.scope": "(self, source)", "tables.Table.takers": "(self, use)",
@@ -84,7 +85,17 @@ CALLS = {
     "ranges.worth_range": "(table, order, pair)", "ranges.worth_ranges": "(table, order)",
     "ranges.stays_best": "(table, order, pair, worth)", "ranges.raised": "(table, by_source, by_use)",
     "bysides.BySides": "(names, order)", "bysides.StuckSides": "(held)", "bysides.find_by_sources": "(bars)",
-    "bysides.find_by_uses": "(bars)",
+    "bysides.find_by_uses": "(bars)", "look_bysides.shows_by_sources": "(bars, paper)",
+    "look_bysides.shows_stuck_sources": "(bars, paper)", "look_bysides.shows_by_uses": "(bars, paper)",
+    "look_bysides.shows_stuck_uses": "(bars, paper)", "ledger.Ledger": "(table, order)",
+    "ledger.Ledger.refilled": "(self)", "ledger.Ledger.gap": "(self)", "ledger.Ledger.credit": "(self, source, amount)",
+    "ledger.Ledger.bill": "(self, use, amount)", "ledger.Ledger.lapse": "(self, source)",
+    "ledger.Ledger.cancel": "(self, use, amount)", "ledger.Ledger.refill": "(self)",
+    "ledger.Ledger.set_way": "(self, order)", "ledger.Ledger.set_rates": "(self, table)",
+    "ledger.Ledger.undo": "(self)", "ledger.Ledger.trial": "(self)", "ledger.Ledger.tried": "(self, work)",
+    "ledger.Ledger.attempt": "(self, work)", "ledger.Ledger.twin": "(self)", "texts.ledger_text": "(ledger)",
+    "reading.read_ledger": "(text)", "desk.Desk": "()", "desk.Desk.ask": "(self, line)",
+    "desk.Desk.__call__": "(self, line)", "desk.Desk.run": "(self, *lines)",
 }
 
 
@@ -133,6 +144,9 @@ class Interface(unittest.TestCase):
     def test_properties(self):
         told = vars(found("offers.Offers")[0])["ends"]
         self.assertEqual([type(told), told.fset, told.fdel], [property, None, None])
+        ledger = vars(found("ledger.Ledger")[0])
+        for name, has_setter in [("free", False), ("open_now", False), ("way", True), ("rates", True)]:
+            self.assertEqual([type(ledger[name]), ledger[name].fset is not None, ledger[name].fdel], [property, has_setter, None])
 
     def test_no_sign_changes_in_place(self):
         for path in SIGNS:

@@ -20,8 +20,8 @@ METHODS = set(
     " split splitlines startswith strip update upper values zfill bit_length isascii".split())
 SPECIAL = set(
     "__init__ __eq__ __str__ __len__ __call__ __iter__ __lt__ __le__ __gt__ __ge__ __add__ __sub__ __mul__ __rmul__"
-    " __floordiv__ __mod__ __and__ __or__ __invert__ __bool__ __contains__ __getitem__".split())
-BARRED = (ast.With, ast.Global, ast.Nonlocal, ast.GeneratorExp, ast.AsyncFunctionDef, ast.Await, ast.SetComp,
+    " __floordiv__ __mod__ __and__ __or__ __invert__ __bool__ __contains__ __getitem__ __setitem__ __enter__ __exit__".split())
+BARRED = (ast.Global, ast.Nonlocal, ast.GeneratorExp, ast.AsyncFunctionDef, ast.Await, ast.SetComp,
           ast.Set, ast.Lambda, ast.NamedExpr, ast.Div, ast.Import, ast.Delete, ast.AnnAssign, ast.AsyncFor, ast.Match)
 WORDS = re.compile(r"\b(type|typing|enum|Enum|Flag|Generic|Protocol|ABC|namedtuple|overload|dataclass)\b|_wall|Meta")
 
@@ -145,6 +145,18 @@ class Language(unittest.TestCase):
                 if isinstance(node, ast.ImportFrom):
                     self.assertEqual([alias.name for alias in node.names if alias.name not in used], [], name)
 
+    def test_blocks(self):
+        for name, node in nodes(ast.With):
+            told = [is_call_of(item.context_expr, ("Trial",)) for item in node.items]
+            self.assertEqual(told, [True], (name, node.lineno))
+        exits = [node for _, node in nodes(ast.FunctionDef) if node.name == "__exit__"]
+        finals = [part for _, node in nodes(ast.Try) for part in node.finalbody]
+        for part in [part for node in exits for part in node.body] + finals:
+            for inner in ast.walk(part):
+                self.assertNotIsInstance(inner, (ast.Call, ast.BinOp, ast.Subscript, ast.Not, ast.Return, ast.For, ast.While), part.lineno)
+                if isinstance(inner, ast.Compare):
+                    self.assertIsInstance(inner.ops[0], (ast.Is, ast.IsNot), part.lineno)
+
     def test_builtins(self):
         for name, node in nodes(ast.Name):
             if hasattr(builtins, node.id):
@@ -156,14 +168,17 @@ class Language(unittest.TestCase):
     def test_decorators(self):
         for name, node in nodes(ast.FunctionDef):
             for told in node.decorator_list:
-                self.assertIn(told.id, ("staticmethod", "classmethod", "property"), name)
+                if isinstance(told, ast.Attribute):
+                    self.assertEqual([told.value.id, told.attr], [node.name, "setter"], name)
+                else:
+                    self.assertIn(told.id, ("staticmethod", "classmethod", "property"), name)
         for name, node in nodes(ast.ClassDef):
             self.assertEqual(node.decorator_list, [], name)
 
     def test_attributes(self):
         own = defined()
         for name, node in nodes(ast.Attribute):
-            self.assertIn(node.attr, own | METHODS | {"__class__", "__name__"}, (name, node.lineno))
+            self.assertIn(node.attr, own | METHODS | {"__class__", "__name__", "setter"}, (name, node.lineno))
 
     def test_special_methods(self):
         for name, node in nodes(ast.FunctionDef):

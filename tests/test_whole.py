@@ -6,18 +6,29 @@ import unittest
 
 from filledrow.alike import alike, alike_orders, normal
 from filledrow.bars import Bars, joint_pairs
-from filledrow.best import shortfall
+from filledrow.best import best, shortfall
 from filledrow.bysides import find_by_sources, find_by_uses
+from filledrow.desk import Desk
 from filledrow.follows import follows, surely_ahead
+from filledrow.foe import Foe, shows_game
+from filledrow.ledger import Ledger
+from filledrow.look_best import shows_best
 from filledrow.look_follows import shows_follows
 from filledrow.look_peels import shows_found, shows_stuck
+from filledrow.nested import narrow_order, nested
+from filledrow.offers import Coming, Offers
 from filledrow.orders import Order
 from filledrow.peels import Found, Stuck, find_order, orders
 from filledrow.ranges import worth_ranges
+from filledrow.reading import read_ledger
+from filledrow.rules import Listed, Narrowest, hindsight, serve
 from filledrow.seen import Seen, explained, told_ahead
 from filledrow.sides import Side
 from filledrow.tables import Table
+from filledrow.texts import ledger_text
 from tests.support import LONG, Case, pairs_of
+from tests.test_nested import samples
+from tests.test_rules import random_comings, random_rules
 
 
 def random_table(chance, sources="abc", uses="xyz"):
@@ -139,6 +150,114 @@ class Together(Case):
         self.assertEqual(find_order(joint_bars(pairs, [flat, other], [], [])).order, Order(("a", "y"), ("a", "x")))
         self.assertEqual(joint_pairs(one, Table({"b": {"z": 1}})), pairs + (("b", "z"),))
         self.assertEqual(len(joint_bars(pairs_of("ab", "xy"), [one], [(("b", "x"), ("a", "x"))], [])), 6)
+
+
+def best_tables(seed, many):
+    """Tables for which there is a best order, and the least one."""
+    chance = random.Random(seed)
+    while many:
+        table = random_table(chance)
+        found = find_order(Bars.best(table))
+        if found:
+            many -= 1
+            yield table, found.order
+
+
+class BestOrders(Case):
+    def test_as_good_as_the_prices(self):
+        chance = random.Random(11)
+        for table, order in best_tables(12, 80):
+            for _ in range(4):
+                sources, uses = random_sides(chance, chance.choice([1, 3, LONG]))
+                paper = best(table, sources, uses)
+                self.assertIs(shows_best(table, sources, uses, paper), True)
+                paid = sum(sources[a] * price for a, price in paper.source_prices.items())
+                paid += sum(uses[x] * price for x, price in paper.use_prices.items())
+                for other in [order, normal(order), *itertools.islice(alike_orders(order), 3)]:
+                    self.assertEqual(other(sources, uses).worth_in(table), paid)
+                    paper.filling = other(sources, uses)
+                    self.assertIs(shows_best(table, sources, uses, paper), True)
+
+    def test_a_ledger_led_by_it_and_refilled_earns_the_best(self):
+        chance, lost = random.Random(13), 0
+        for table, order in best_tables(14, 120):
+            ledger = Ledger(table, order)
+            for _ in range(10):
+                if chance.random() < 0.5:
+                    ledger.credit(chance.choice(table.sources), chance.choice([1, 2, LONG]))
+                else:
+                    ledger.bill(chance.choice(table.uses), chance.choice([1, 2, LONG]))
+            wanted = best(table, ledger.sources, ledger.uses).filling.worth_in(table)
+            self.assertLessEqual(ledger.filling.worth_in(table), wanted)
+            lost += ledger.gap() > 0
+            self.assertEqual(ledger.gap(), wanted - ledger.filling.worth_in(table))
+            found = read_ledger(ledger_text(ledger))
+            found.refill()
+            self.assertEqual([found.filling.worth_in(table), found.gap()], [wanted, 0])
+        self.assertGreater(lost, 5)
+
+    def test_a_desk_finds_it_and_judges_it(self):
+        chance = random.Random(15)
+        for table, order in best_tables(16, 60):
+            desk, (sources, uses) = Desk(), random_sides(chance)
+            desk.run(f"table {table}", f"sources {sources}", f"uses {uses}")
+            desk.ask(f"order {desk.ask('find')}")
+            worth = order(sources, uses).worth_in(table)
+            self.assertEqual([desk.order, *desk.run("judge", "best", "fill")], [order, "best", f"{worth} - 0", f"{order(sources, uses)} = {worth}"])
+            for pair, (low, high) in worth_ranges(table, order).items():
+                self.assertEqual(desk.ask(f"range {pair[0]} {pair[1]}"), f"{low} to {'on' if high is None else high}")
+
+
+class Futures(Case):
+    def test_a_rule_by_lists_takes_what_the_order_use_by_use_takes(self):
+        chance = random.Random(17)
+        for offers in samples(18, 250):
+            table = offers.table
+            uses = chance.sample(table.uses, len(table.uses))
+            lists = {x: chance.sample(table.takers(x), len(table.takers(x))) for x in uses}
+            order = Order.of([(a, x) for x in uses for a in lists[x]])
+            sources = Side.of({a: chance.choice([0, 1, 3, LONG]) for a in "abcd"})
+            wants = {x: chance.choice([0, 1, 2, LONG]) for x in uses}
+            told = serve(Listed(lists), Offers(table), sources, [Coming(x, wants[x], day) for day, x in enumerate(uses)])
+            filling = order(sources, Side.of(wants))
+            self.assertEqual({(a, x): many for x, taken in zip(uses, told.taken) for a, many in taken.items()}, dict(filling))
+            self.assertEqual([told.earned, told.left], [filling.worth_in(table), sources - filling.by_source])
+
+    def test_nested_offers_whose_sources_never_run_out(self):
+        chance, many = random.Random(19), 0
+        for offers in samples(20, 400):
+            offers = Offers(offers.table)
+            if not nested(offers) or not offers.table:
+                continue
+            many += 1
+            order = narrow_order(offers)
+            self.assertIsNone(Bars.best(offers.table).first_broken(order))
+            sources = Side.of({a: chance.choice([0, 1, 3, LONG]) for a in offers})
+            comings = random_comings(chance, 5, offers.table.uses)
+            ledger = Ledger(offers.table, order)
+            for a, amount in sources:
+                ledger.credit(a, amount)
+            for coming in comings:
+                ledger.bill(coming.use, coming.amount)
+            earned = serve(Narrowest(), offers, sources, comings).earned
+            self.assertEqual([earned, ledger.gap()], [hindsight(offers, sources, comings), 0])
+            self.assertEqual(earned, best(offers.table, sources, ledger.uses).filling.worth_in(offers.table))
+        self.assertGreater(many, 60)
+
+    def test_a_game_shows_no_more_than_the_best_filling(self):
+        chance, many = random.Random(21), 0
+        for offers in samples(22, 400):
+            if nested(offers):
+                continue
+            game = Foe(offers).play(random_rules(chance))
+            self.assertIs(shows_game(offers, game), True)
+            wants = {x: sum(coming.amount for coming in game.comings if coming.use == x) for x in offers.table.uses}
+            most = best(offers.table, game.sources, Side.of(wants)).filling.worth_in(offers.table)
+            taken, better = [sum(amount * offers.table[a, coming.use] for coming, row in zip(game.comings, rows) for a, amount in row.items())
+                             for rows in (game.taken, game.better)]
+            self.assertTrue(taken < better <= hindsight(offers, game.sources, game.comings) <= most)
+            many += 1
+        self.assertGreater(many, 50)
 
 
 if __name__ == "__main__":
