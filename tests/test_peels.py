@@ -10,7 +10,7 @@ from filledrow.errors import BadBars, TooMany
 from filledrow.orders import Order
 from filledrow.peels import Found, Stuck, count_orders, find_order, firsts, free_pairs, lasts, narrowed, orders
 from filledrow.tables import Table
-from tests.support import ANY, FOUR, SIX_BY_SIX, Case, others, pairs_of
+from tests.support import ANY, FOUR, SIX_BY_SIX, Case, others
 from tests.test_bars import NO_PAIR_LISTS, all_bars, breaks
 
 AX, AY, BX, BY = FOUR
